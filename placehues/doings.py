@@ -12,10 +12,10 @@ MOST_DOINGS = 48
 
 def doing(machine, word):
     """The DOING of word."""
-    return _doing_by(least(machine), word)
+    return doing_by(least(machine), word)
 
 
-def _doing_by(small, word):
+def doing_by(small, word):
     """The DOING of word by a MACHINE that is a least one."""
     return tuple([led_to(small, state, word) for state in range(len(small[0]))])
 
@@ -110,6 +110,11 @@ def is_group(machine):
     """Whether machine is a group's."""
     small = least(machine)
     walk_doings(small)
+    return leads_apart(small)
+
+
+def leads_apart(small):
+    """Whether no letter leads two STATES of a least MACHINE to one, so whether it is a group's."""
     return all([len(set(one)) == len(one) for one in letter_doings(small)])
 
 
@@ -142,10 +147,10 @@ def surroundings(machine, one, other):
     first, second = fit_doing(walk, one), fit_doing(walk, other)
     if first == second:
         raise CanNot()
-    return _least_surroundings(small, first, second)
+    return least_surroundings(small, first, second)
 
 
-def _least_surroundings(small, one, other):
+def least_surroundings(small, one, other):
     """What surroundings returns, for two unlike DOINGS by a least MACHINE."""
     found = []
     walk = Walk(0)
@@ -164,10 +169,10 @@ def is_surroundings(machine, one, other, thing):
     small = least(machine)
     walk = walk_doings(small)
     first, second = fit_doing(walk, one), fit_doing(walk, other)
-    return _has_words(small, thing, 2) and _surrounds(small, first, second, thing)
+    return has_words(small, thing, 2) and _surrounds(small, first, second, thing)
 
 
-def _has_words(machine, thing, many):
+def has_words(machine, thing, many):
     """Whether thing is a tuple of so many WORDS of the letters of machine."""
     letters = letters_in(machine)
     return is_tuple_of(thing, many) and all([has_numbers_between(word, 1, letters) for word in thing])
@@ -187,7 +192,7 @@ def stuck(machine):
     still = walk.found[0]
     for one in walk.found[1:]:
         if _halts(one):
-            ahead, behind = _least_surroundings(small, still, one)
+            ahead, behind = least_surroundings(small, still, one)
             return walk.word_to(walk.numbers[one]), ahead, behind
     raise CanNot()
 
@@ -196,7 +201,7 @@ def is_stuck(machine, thing):
     """Whether machine is stuck at thing."""
     small = least(machine)
     still = walk_doings(small).found[0]
-    if not _has_words(small, thing, 3):
+    if not has_words(small, thing, 3):
         return False
-    one = _doing_by(small, thing[0])
+    one = doing_by(small, thing[0])
     return _halts(one) and _surrounds(small, still, one, thing[1:])

@@ -37,3 +37,10 @@ def is_ascending(numbers):
 def is_set_below(thing, many):
     """Whether thing is an ascending tuple, maybe (), of numbers from 0, all below many."""
     return has_numbers_between(thing, 0, many - 1) and is_ascending(thing)
+
+
+def as_tuples(value):
+    """value, with a tuple for each list in it, at any depth."""
+    if isinstance(value, (list, tuple)):
+        return tuple([as_tuples(own) for own in value])
+    return value

@@ -29,6 +29,16 @@ def _is_change(thing, many):
     return is_tuple_of(thing, 2) and has_numbers_from(thing, 0) and thing[0] < many
 
 
+def is_history_of(thing, letters):
+    """Whether thing is a HISTORY that puts no letter above so many."""
+    return is_history(thing) and has_letters(thing, letters)
+
+
+def has_letters(history, letters):
+    """Whether no letter of history is above so many."""
+    return all([letter <= letters for _, letter in history[1]])
+
+
 def reads(text):
     """The WORD that text reads."""
     return tuple([letter for letter in text if letter > 0])

@@ -2,6 +2,7 @@
 
 import copy
 import importlib
+from random import Random
 
 INTERFACE = {
     "words": [
@@ -19,6 +20,45 @@ INTERFACE = {
         "word_for(machine, one)", "round_of(one)", "halting(machine)", "is_group(machine)",
         "commutes(machine)", "crossed(machine)", "surroundings(machine, one, other)",
         "is_surroundings(machine, one, other, thing)", "stuck(machine)", "is_stuck(machine, thing)",
+    ],
+    "centres": [
+        "opposite(machine, one)", "exponent(machine)", "centre(machine)", "lots(machine)", "lot_of(machine, one)",
+        "is_central(machine, one)", "rises(machine)", "class_of(machine)", "cross(machine, one, other)",
+        "crosses(machine)", "twist(machine, words)", "twists(machine, many)", "twisted(machine, many)",
+        "is_twisted(machine, many, thing)",
+    ],
+    "books": [
+        "is_book(thing)", "is_stand(book, thing)", "letters_of(book)", "hues_for(book, letter)", "begun(book, many)",
+        "turned(book, stand, change)", "stand_behind(book, history)", "answer(book, history)",
+        "flags_along(book, history)", "hues_along(book, history, place)", "text_of(book, stand)",
+        "stands_come(book, many)", "history_to(book, stand)",
+    ],
+    "told": [
+        "goes_by(book, word)", "told_of(book)", "is_parts(book, thing)", "told_for(machine)", "levels_for(machine)",
+    ],
+    "made": [
+        "hue_book(machine)", "book_sizes(machine)", "flag_doings(machine)", "hue_pairs(machine)",
+        "turn_by(machine, one, old, new)", "stand_for(machine, text)", "parts_for(machine)",
+    ],
+    "fewest": [
+        "hues_of(book)", "fewest_hues(machine)", "has_enough(book, machine)", "spread_for(machine, letter)",
+        "crowd_of(book, machine, letter)", "is_crowd(book, machine, thing)", "crowd_parting(book, machine, crowd)",
+        "is_parting(book, machine, thing)",
+    ],
+    "slots": [
+        "is_deal(thing)", "dealt(deal)", "like_deals(machine, word)", "is_like_deals(machine, word, thing)",
+        "slots(machine, deals, bits, around)", "gap_place(machine, deals, around, number)",
+        "told_too_little(book, machine)",
+    ],
+    "laps": [
+        "lap(book, word, around)", "twins(book, word, around)", "is_twins(book, word, around, thing)",
+        "standing_machine(letters, letter)", "stuck_parting(book, machine)",
+    ],
+    "asked": [
+        "whole_book(machine)", "whole_pairs(machine)", "whole_marks(machine)", "fewest_asked(machine)",
+        "read_ahead(machine, stand, x)", "read_between(machine, stand, x, y)", "takes_between(machine, stand, x, y)",
+        "wrong_places(book, machine, marks, history)", "is_wrong(book, machine, marks, thing)",
+        "wrong_one(book, machine, marks)",
     ],
 }
 
@@ -45,6 +85,8 @@ def with_lists(value, lists_at, depth=0):
     return inner if lists_at(depth) else tuple(inner)
 
 
+HERE_AND_THERE = Random(2)
+
 MIXTURES = [
     ("tuples", lambda depth: False),
     ("lists", lambda depth: True),
@@ -52,6 +94,7 @@ MIXTURES = [
     ("lists further in", lambda depth: depth > 0),
     ("lists at each other depth", lambda depth: depth % 2 == 1),
     ("lists two deep", lambda depth: depth == 2),
+    ("lists here and there", lambda depth: HERE_AND_THERE.random() < 0.5),
 ]
 
 
@@ -92,3 +135,13 @@ def all_ways(function, names, values):
                 got[1][0] = "spoilt"
             assert shape(args) == shape(before), (function, before, args)
     return shapes
+
+
+def refused(function, *args):
+    """The name of the error that a call raises, with what it keeps: CanNot, NoPlace(3); None if it raises none."""
+    try:
+        function(*args)
+    except (LookupError, ValueError) as error:
+        kept = ", ".join([str(own) for own in vars(error).values()])
+        return error.__class__.__name__ + ("(%s)" % kept if kept else "")
+    return None

@@ -4,11 +4,19 @@ import inspect
 import unittest
 
 from calls import all_ways, function, interface, outcome, shape
+from plain_books import PARITY, SIDES, dull_book
+from plain_groups import BIG, FIRST, ODD, SOME, SQUARE, THREE
 
-ODD, SOME, FIRST = (((1,), (0,)), (1,)), (((1,), (1,)), (1,)), (((1, 2), (1, 1), (2, 2)), (1,))
-THREE = (((1, 0), (0, 2), (2, 1)), (0,))
 LATEST = (((1, 2), (1, 2), (1, 2)), (1,))
-BIG = (tuple([((at + 1) % 12, {0: 1, 1: 0}.get(at, at), max(at, 1)) for at in range(12)]), (0, 3))
+DULL = dull_book(2, True)
+# the first HUE BOOK printed
+OF_ODD = ((False, True), (0, 1), (0, 0), (
+    (((0, 0, (0, 1), (0, 1)), (1, 1, (0, 1), (0, 1))), ((1, 0, (0, 1), (0, 1)), (0, 1, (0, 1), (0, 1)))),
+    (((1, 0, (0, 1), (0, 1)), (0, 1, (0, 1), (0, 1))), ((0, 0, (0, 1), (0, 1)), (1, 1, (0, 1), (0, 1)))),
+))
+CROWD = ((3, ((1, 1),)), 0, 2)
+ONE_OR_NONE, TURNED = (((0, 1),), ((0, 0),)), (((0, 1), (1, 2)), ((1, 1), (0, 2)))
+BLOCK, STRANGE = (2, ((0, 1), (1, 1))), (2, ((0, 3),))
 UP = (3, ((2, 1), (0, 2), (0, 0), (2, 0)))
 DEEP = (3, ((2, 1), (0, 2), (2, 0)))
 LISTS = [3, [[2, 1]]]
@@ -51,7 +59,101 @@ CASES = {
     ],
     "stuck": [(FIRST,), (THREE,), (BIG,)],
     "is_stuck": [(FIRST, ((2,), (), (1,))), (FIRST, [(2,), (), (1,)]), (FIRST, ((2,), [], (1,))), (BIG, None)],
+    "opposite": [(SQUARE, (1, 2, 3, 0)), (SQUARE, (1, 0, 2, 3)), (SOME, (0, 1)), (BIG, ())],
+    "exponent": [(SQUARE,), (THREE,), (SOME,), (BIG,)],
+    "centre": [(SQUARE,), (THREE,), (SOME,), (BIG,)],
+    "lots": [(SQUARE,), (THREE,), (SOME,), (BIG,)],
+    "lot_of": [(SQUARE, (1, 2, 3, 0)), (SQUARE, ()), (SOME, (0, 1)), (BIG, ())],
+    "is_central": [(SQUARE, (2, 3, 0, 1)), (SQUARE, (0, 3, 2, 1)), (SQUARE, ()), (SOME, (0, 1)), (BIG, ())],
+    "rises": [(SQUARE,), (THREE,), (SOME,), (BIG,)],
+    "class_of": [(SQUARE,), (THREE,), (SOME,), (BIG,)],
+    "cross": [(SQUARE, (1, 2, 3, 0), (0, 3, 2, 1)), (THREE, (1, 0, 2), (0, 1)), (SOME, (0, 1), ()), (BIG, (), ())],
+    "crosses": [(SQUARE,), (THREE,), (SOME,), (BIG,)],
+    "twist": [(SQUARE, ((1,), (2,), (1,))), (SQUARE, ((1, 1), (4, 3))), (SQUARE, ((),)), (SOME, ((1,),)), (BIG, ((9,),))],
+    "twists": [(SQUARE, 2), (THREE, 12), (SOME, 1), (BIG, 1)],
+    "twisted": [(SQUARE, 2), (SQUARE, 3), (THREE, 4), (SOME, 1), (BIG, 1)],
+    "is_twisted": [
+        (SQUARE, 2, ((1, 1, 1), (2,))), (SQUARE, 2, [(1,), (2,)]), (SQUARE, 2, ([1], (2,))), (SOME, 1, None), (BIG, 1, 0),
+    ],
+    "is_book": [(SIDES,), (list(SIDES),), (SIDES[:3] + (list(SIDES[3]),),)],
+    "is_stand": [(SIDES, (1, (2, 3, 2))), (SIDES, [1, (2,)]), (SIDES, (1, [2]))],
+    "letters_of": [(SIDES,), (DULL,)],
+    "hues_for": [(SIDES, 1), (SIDES, 2)],
+    "begun": [(SIDES, 3), (DULL, 1)],
+    "turned": [(SIDES, (1, (2, 3, 2)), (0, 0)), (SIDES, (1, (2, 3)), (2, 5)), (SIDES, (1, (2, 3)), (1, 2))],
+    "stand_behind": [(SIDES, BLOCK), (SIDES, (4, ((2, 1), (0, 1), (2, 0)))), (SIDES, STRANGE)],
+    "answer": [(SIDES, BLOCK), (PARITY, (1, ((0, 1),))), (SIDES, STRANGE)],
+    "flags_along": [(SIDES, BLOCK), (SIDES, (1, ())), (SIDES, STRANGE)],
+    "hues_along": [(SIDES, BLOCK, 1), (SIDES, BLOCK, 2), (SIDES, STRANGE, 9)],
+    "text_of": [(SIDES, (1, (2, 3, 0))), (DULL, (0, (2, 1, 0)))],
+    "stands_come": [(SIDES, 2), (PARITY, 12)],
+    "history_to": [(SIDES, (0, (2, 3))), (SIDES, (1, (3,))), (SIDES, (0, (0, 0))), (PARITY, (1, (0,) * 12))],
+    "goes_by": [(PARITY, "nobody"), (SIDES, "side"), (SIDES, "letters"), (SIDES, "flag")],
+    "told_of": [(PARITY,), (SIDES,), (DULL,)],
+    "is_parts": [(PARITY, ((0,), (0,))), (PARITY, [(0,), (0,)]), (PARITY, ([0], (0,))), (SIDES, ((0,), (1,)) * 2)],
+    "told_for": [(ODD,), (SQUARE,), (THREE,), (SOME,), (BIG,)],
+    "levels_for": [(ODD,), (SQUARE,), (THREE,), (SOME,), (BIG,)],
+    "hue_book": [(ODD,), (SOME,), (BIG,)],
+    "book_sizes": [(THREE,), (SOME,), (BIG,)],
+    "flag_doings": [(THREE,), (SOME,), (BIG,)],
+    "hue_pairs": [(THREE,), (SOME,), (BIG,)],
+    "turn_by": [(THREE, (1, 0, 2), 0, 2), (THREE, (1, 0), 0, 2), (SOME, (), 0, 1), (BIG, (), 0, 1)],
+    "stand_for": [(THREE, (1, 0, 2)), (ODD, ()), (ODD, (0, 2, 3)), (SOME, (9,)), (BIG, (9,))],
+    "parts_for": [(SQUARE,), (ODD,), (THREE,), (SOME,), (BIG,)],
+    "hues_of": [(SIDES,), (DULL,)],
+    "fewest_hues": [(SQUARE,), (SOME,), (BIG,)],
+    "has_enough": [(DULL, SQUARE), (PARITY, ODD), (PARITY, THREE), (PARITY, SOME), (dull_book(3, True), BIG)],
+    "spread_for": [(THREE, 0), (SQUARE, 2), (THREE, 3), (SOME, 9), (BIG, 9)],
+    "crowd_of": [(DULL, THREE, 0), (PARITY, ODD, 1), (DULL, THREE, 3), (DULL, ODD, 9), (PARITY, SOME, 9)],
+    "is_crowd": [(DULL, THREE, CROWD), (DULL, THREE, list(CROWD)), (DULL, ODD, CROWD), (PARITY, SOME, CROWD)],
+    "crowd_parting": [(DULL, THREE, CROWD), (DULL, THREE, CROWD[:2]), (DULL, ODD, CROWD), (PARITY, SOME, CROWD)],
+    "is_parting": [(PARITY, ODD, BLOCK), (PARITY, SOME, BLOCK), (PARITY, SOME, list(BLOCK)), (PARITY, THREE, BLOCK)],
+    "is_deal": [(TURNED[1],), (list(TURNED[1]),), (([0, 1],),)],
+    "dealt": [(TURNED[1],), (((0, 0),),)],
+    "like_deals": [(THREE, "letters"), (SQUARE, "side"), (SQUARE, "letters"), (SOME, "side"), (BIG, "side")],
+    "is_like_deals": [
+        (THREE, "letters", TURNED), (SQUARE, "letters", TURNED), (SQUARE, "side", ONE_OR_NONE),
+        (SQUARE, "side", list(ONE_OR_NONE)), (SOME, "side", None), (BIG, "side", None),
+    ],
+    "slots": [(THREE, TURNED, (0, 1), (1, 2)), (SOME, TURNED, (0,), (0, 0)), (BIG, TURNED, (0,), (0, 0))],
+    "gap_place": [(THREE, TURNED, (1, 2), 1), (SOME, TURNED, (0, 0), 0), (BIG, TURNED, (0, 0), 0)],
+    "told_too_little": [(DULL, THREE), (PARITY, ODD), (PARITY, SOME), (dull_book(3, True), BIG)],
+    "lap": [(PARITY, (1,), ((), ())), (SIDES, (1, 1), ((1,), (1,)))],
+    "twins": [(PARITY, (1,), ((1,), ())), (SIDES, (1, 1), ((), (1,))), (PARITY, (1,) * 301, ((), ()))],
+    "is_twins": [
+        (PARITY, (1,), ((), ()), ((1, ()), BLOCK)), (PARITY, (1,), ((), ()), [(1, ()), BLOCK]),
+        (PARITY, (1,), ((1,), (1,)), (BLOCK, (4, ((0, 1), (1, 1), (2, 1), (3, 1))))),
+    ],
+    "standing_machine": [(3, 2), (1, 1)],
+    "stuck_parting": [(PARITY, SOME), (DULL, FIRST), (PARITY, ODD), (dull_book(3, True), BIG)],
+    "whole_book": [(ODD,), (SOME,), (BIG,)],
+    "whole_pairs": [(THREE,), (SOME,), (BIG,)],
+    "whole_marks": [(THREE,), (SOME,), (BIG,)],
+    "fewest_asked": [(THREE,), (SOME,), (BIG,)],
+    "read_ahead": [(ODD, (1, (2, 1, 3, 2)), 3), (ODD, (1, (2,)), 1), (SOME, (0, (0,)), 0), (BIG, (0, (0,)), 0)],
+    "read_between": [
+        (ODD, (1, (2, 1, 3, 2)), 1, 4), (ODD, (1, (2,)), 1, 5), (ODD, (1, (2,)), 0, 5), (ODD, (0, (2, 3)), 1, 0),
+        (SOME, (0, (0,)), 0, 0), (BIG, (0, (0,)), 0, 0),
+    ],
+    "takes_between": [
+        (ODD, (1, (2, 1, 3, 2)), 1, 4), (ODD, (1, (2,)), 1, 5), (ODD, (1, (2,)), 0, 5), (ODD, (0, (2, 3)), 1, 0),
+        (SOME, (0, (0,)), 0, 0), (BIG, (0, (0,)), 0, 0),
+    ],
+    "wrong_places": [
+        (OF_ODD, ODD, (False, True), BLOCK), (OF_ODD, ODD, (False,), BLOCK), (OF_ODD, ODD, (False, True), STRANGE),
+        (OF_ODD, THREE, (False, True), BLOCK), (OF_ODD, SOME, (False, True), BLOCK), (OF_ODD, BIG, (), BLOCK),
+    ],
+    "is_wrong": [
+        (OF_ODD, ODD, (False, True), (BLOCK, 1)), (OF_ODD, ODD, (False, True), [BLOCK, 1]),
+        (OF_ODD, ODD, (False,), None), (OF_ODD, THREE, (False, True), None), (OF_ODD, BIG, (), None),
+    ],
+    "wrong_one": [
+        (OF_ODD, ODD, (False, True)), (DULL, THREE, (True,) * 3), (OF_ODD, ODD, ()), (dull_book(1, True), SOME, (True,) * 2),
+        (dull_book(1, True), (((0,),), ()), (True,) * 2), (OF_ODD, BIG, ()),
+    ],
 }
+
+RETURN_LISTS = ["rises", "stands_come", "texts_along"]
 
 
 class Calls(unittest.TestCase):
@@ -78,12 +180,12 @@ class Calls(unittest.TestCase):
                     expected = shape(outcome(lambda: own(*values)))
                     self.assertEqual(sorted(set(shapes)), [expected])
 
-    def test_only_texts_along_returns_a_list(self):
+    def test_which_functions_return_lists(self):
         for file, name, _ in interface():
             for values in CASES[name]:
                 got = outcome(lambda: function(file, name)(*values))
                 if got[0] == "returned":
-                    self.assertEqual("[" in shape(got[1]), name == "texts_along")
+                    self.assertEqual("[" in shape(got[1]), name in RETURN_LISTS)
 
 
 if __name__ == "__main__":
