@@ -1,7 +1,7 @@
 """BOOKS, and the STANDS to which CHANGES turn them."""
 
 from placehues.errors import CanNot, NoPlace, TooMuch, Unfit
-from placehues.kinds import as_tuples, has_numbers_between, has_numbers_from, is_number, is_tuple_of
+from placehues.kinds import as_tuples, has_numbers_between, has_numbers_from, is_answers, is_number, is_tuple_of
 from placehues.walks import Walk
 from placehues.words import has_letters
 
@@ -33,14 +33,9 @@ def is_book(thing):
     if not is_tuple_of(thing, 4):
         return False
     answers, hues, begin, rows = thing
-    if not _is_answers(answers) or not _is_hues(hues):
+    if not is_answers(answers) or not _is_hues(hues):
         return False
     return _is_begin(begin, len(answers), hues) and _is_rows(rows, len(answers), hues)
-
-
-def _is_answers(thing):
-    """Whether thing has True or False for each FLAG, one FLAG at least."""
-    return isinstance(thing, tuple) and len(thing) > 0 and all([isinstance(own, bool) for own in thing])
 
 
 def _is_hues(thing):

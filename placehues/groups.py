@@ -1,40 +1,21 @@
-"""The DOINGS by a group's MACHINE, told by numbers, so that they are quickly multiplied."""
+"""The DOINGS by a group's MACHINE, told by numbers, with their opposites, and how they commute."""
 
-from placehues.doings import fit_doing, leads_apart, letter_doings, product, walk_doings
+from placehues.doings import fit_doing, leads_apart
 from placehues.errors import NoPlace, Unfit
-from placehues.machines import least
+from placehues.products import Products
 
 
-class Group:
+class Group(Products):
     """The DOINGS by a group's MACHINE, numbered 0, 1, .. as they ascend; so ONE is 0.
 
     TooMuch() if there are more than 48, then Unfit() if the MACHINE is no group's.
     """
 
     def __init__(self, machine):
-        self.small = least(machine)
-        self.walk = walk_doings(self.small)
+        Products.__init__(self, machine)
         if not leads_apart(self.small):
             raise Unfit()
-        self.doings = tuple(sorted(self.walk.found))
-        self.numbers = {one: number for number, one in enumerate(self.doings)}
-        self.letters = [0] + [self.numbers[one] for one in letter_doings(self.small)]
-        self.behind = self.all_behind()
         self.opposites = self.all_opposites()
-
-    def all_behind(self):
-        """The list with for each DOING that of all products with it behind: x . y is at y, and there at x."""
-        by_letter = [self.all_ahead(self.doings[number]) for number in self.letters]
-        behind = [list(range(len(self.doings)))] * len(self.doings)
-        # a WORD is its last letter behind the rest, and the walk found the rest first
-        for (rest, letter), one in list(zip(self.walk.ways, self.walk.found))[1:]:
-            ahead = behind[self.numbers[self.walk.found[rest]]]
-            behind[self.numbers[one]] = [by_letter[letter][own] for own in ahead]
-        return behind
-
-    def all_ahead(self, other):
-        """The list with for each DOING its product with other behind it."""
-        return [self.numbers[product(one, other)] for one in self.doings]
 
     def all_opposites(self):
         """The list with for each DOING its opposite."""
@@ -46,10 +27,6 @@ class Group:
     def fit(self, one):
         """The number of a DOING; Unfit() if one is none."""
         return self.numbers[fit_doing(self.walk, one)]
-
-    def told(self, numbers):
-        """The tuple of the DOINGS with these numbers."""
-        return tuple([self.doings[number] for number in numbers])
 
     def of_word(self, text):
         """The DOING of what text reads; NoPlace of the first letter that the MACHINE has not."""
@@ -63,14 +40,6 @@ class Group:
     def word_from(self, one, other):
         """Of the shortest WORDS that lead on from the DOING one to other, the least."""
         return self.walk.word_to(self.walk.numbers[self.doings[self.times(self.opposites[one], other)]])
-
-    def is_taken(self, one):
-        """Whether the MACHINE takes the WORDS with this DOING."""
-        return self.doings[one][0] in self.small[1]
-
-    def times(self, one, other):
-        """one . other"""
-        return self.behind[other][one]
 
     def cross(self, one, other):
         """The cross of one and other."""

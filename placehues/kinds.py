@@ -39,6 +39,11 @@ def is_set_below(thing, many):
     return has_numbers_between(thing, 0, many - 1) and is_ascending(thing)
 
 
+def is_answers(thing):
+    """Whether thing is a tuple, not (), of True and False."""
+    return isinstance(thing, tuple) and len(thing) > 0 and all([isinstance(own, bool) for own in thing])
+
+
 def as_tuples(value):
     """value, with a tuple for each list in it, at any depth."""
     if isinstance(value, (list, tuple)):

@@ -71,7 +71,12 @@ def _merged(rows, taking, groups):
     walk = Walk(groups[0])
     while not walk.is_done():
         walk.go_on([groups[after] for after in rows[sample[walk.here()]]])
-    return tuple(walk.rows), _places_of_true([taking[sample[group]] for group in walk.found])
+    return walked_machine(walk, [taking[sample[group]] for group in walk.found])
+
+
+def walked_machine(walk, taking):
+    """The MACHINE with what a Walk has found as STATES; taking tells for each whether it is an end."""
+    return tuple(walk.rows), _places_of_true(taking)
 
 
 def _places_of_true(values):
@@ -110,8 +115,7 @@ def both_of(one, other):
     while not walk.is_done():
         walk.go_on(_pairs_led_to(one, other, walk.here()))
     ends, other_ends = ends_of(one), ends_of(other)
-    taking = [first in ends and second in other_ends for first, second in walk.found]
-    return tuple(walk.rows), _places_of_true(taking)
+    return walked_machine(walk, [first in ends and second in other_ends for first, second in walk.found])
 
 
 def other_way(machine):

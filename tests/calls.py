@@ -60,6 +60,27 @@ INTERFACE = {
         "wrong_places(book, machine, marks, history)", "is_wrong(book, machine, marks, thing)",
         "wrong_one(book, machine, marks)",
     ],
+    "changes": [
+        "swap_of(machine)", "is_swap(machine, thing)", "put_word(history)", "put_stack(history)", "put_flags(machine)",
+        "put_book(machine)", "back_book(machine)", "is_put_right(book, machine)", "put_parting(book, machine)",
+    ],
+    "judged": [
+        "sight_behind(book, machine, history)", "sight_turned(book, machine, sight, number, letter)",
+        "lies_in(one, other)", "parting(book, machine)", "is_right(book, machine)", "least_rows(book, machine)",
+        "is_rows(book, machine, thing)", "table(book, machine)", "is_table(book, machine, thing)",
+    ],
+    "steady": [
+        "own_machine(book)", "is_steady(book)", "jar(book)", "is_jar(book, thing)", "are_books_alike(one, other)",
+        "books_parting(one, other)", "is_books_parting(one, other, thing)",
+    ],
+    "pairbooks": [
+        "is_pairbook(thing)", "tint_between(pairbook, history, x, y)", "pair_answer(pairbook, history)",
+        "tints_that_come(pairbook)", "comes(pairbook, machine)", "is_pair_right(pairbook, machine)",
+        "pair_parting(pairbook, machine)", "is_pair_parting(pairbook, machine, thing)", "tint_book(machine)",
+        "fewest_tints(machine)", "crowded_tint(pairbook, machine)", "folded_tints(pairbook)",
+        "pairs_parted(one, other)", "pair_machine(pairbook)", "unsteady_pair(pairbook)",
+        "is_unsteady_pair(pairbook, thing)",
+    ],
 }
 
 

@@ -20,6 +20,17 @@ BLOCK, STRANGE = (2, ((0, 1), (1, 1))), (2, ((0, 3),))
 UP = (3, ((2, 1), (0, 2), (0, 0), (2, 0)))
 DEEP = (3, ((2, 1), (0, 2), (2, 0)))
 LISTS = [3, [[2, 1]]]
+# the SIGHT behind a letter at the first of two places, the LIST and the TABLE of PARITY
+SEEN = (1, (1, 0), ((1, (0, 1)), (0, (1, 0))))
+ROWS = ((0, (1, 0), ()), (1, (0, 1), ()))
+TABLE = tuple([(f, (f, 1 - f), (h, x)) for f in (0, 1) for h in (0, 1) for x in ((0, 1), (1, 0))])
+LAST_CHANGE = ((False, True), (0, 1), (0, 0), tuple([tuple([tuple([
+    (f if h == b else b, b, (0, 1), (0, 1)) for b in (0, 1)]) for h in (0, 1)]) for f in (0, 1)]))
+FLIPS = ((False, True), 0, (((0, 1), (1, 0)), ((1, 0), (0, 1))))
+LAST_PUT = ((False, True), 0, (((0, 0), (1, 1)), ((0, 0), (1, 1))))
+WIDE = ((False, True, True), 0, (((0, 1, 2), (1, 2, 1)), ((1, 1, 2), (2, 1, 1)), ((2, 2, 1), (1, 1, 2))))
+OF_THREE_LETTERS = ((True,), 0, (((0,),) * 4,))
+TAKEN = (2, ((0, 1), (1, 1), (1, 0)))
 
 CASES = {
     "is_word": [((1, 2),), ([1, 2],)],
@@ -151,6 +162,54 @@ CASES = {
         (OF_ODD, ODD, (False, True)), (DULL, THREE, (True,) * 3), (OF_ODD, ODD, ()), (dull_book(1, True), SOME, (True,) * 2),
         (dull_book(1, True), (((0,),), ()), (True,) * 2), (OF_ODD, BIG, ()),
     ],
+    "swap_of": [(FIRST,), (THREE,), (ODD,), (BIG,)],
+    "is_swap": [
+        (FIRST, ((), 1, 2, (1,))), (FIRST, [(), 1, 2, (1,)]), (FIRST, ([], 1, 2, (1,))), (FIRST, ((1,), 1, 2, ())),
+    ],
+    "put_word": [(LISTS,), (DEEP,), (UP,)],
+    "put_stack": [(LISTS,), (DEEP,), (UP,)],
+    "put_flags": [(ODD,), (SOME,), (FIRST,), (BIG,)],
+    "put_book": [(ODD,), (SOME,), (FIRST,), (BIG,)],
+    "back_book": [(ODD,), (SOME,), (FIRST,), (BIG,)],
+    "is_put_right": [(PARITY, ODD), (PARITY, SOME), (SIDES, ODD), (PARITY, FIRST), (DULL, FIRST), (dull_book(3, True), BIG)],
+    "put_parting": [(PARITY, SOME), (DULL, FIRST), (PARITY, ODD), (SIDES, ODD), (PARITY, FIRST), (dull_book(3, True), BIG)],
+    "sight_behind": [(PARITY, ODD, BLOCK), (PARITY, ODD, STRANGE), (PARITY, SOME, BLOCK), (DULL, THREE, UP)],
+    "sight_turned": [(PARITY, ODD, SEEN, 0, 0), (PARITY, ODD, SEEN, 2, 1), (SIDES, ODD, SEEN, 0, 0), (PARITY, SOME, SEEN, 0, 0)],
+    "lies_in": [(SEEN, SEEN), (SEEN[:2] + (SEEN[2][1:],), SEEN), (SEEN, SEEN[:2] + ((),))],
+    "parting": [(PARITY, ODD), (dull_book(1, True), ODD), (DULL, SQUARE), (PARITY, SOME), (dull_book(3, True), BIG)],
+    "is_right": [(PARITY, ODD), (dull_book(1, True), ODD), (DULL, SQUARE), (PARITY, SOME), (dull_book(3, True), BIG)],
+    "least_rows": [(PARITY, ODD), (SIDES, ODD), (dull_book(1, True), ODD), (DULL, SQUARE), (PARITY, SOME)],
+    "is_rows": [(PARITY, ODD, ROWS), (PARITY, ODD, list(ROWS)), (PARITY, ODD, ([0, (1, 0), ()],)), (PARITY, SOME, ())],
+    "table": [(PARITY, ODD), (SIDES, ODD), (dull_book(1, True), ODD), (DULL, SQUARE), (PARITY, SOME)],
+    "is_table": [(PARITY, ODD, TABLE), (PARITY, ODD, list(TABLE)), (PARITY, ODD, ()), (PARITY, SOME, ())],
+    "own_machine": [(PARITY,), (LAST_CHANGE,), (SIDES,), (DULL,)],
+    "is_steady": [(PARITY,), (LAST_CHANGE,), (SIDES,)],
+    "jar": [(LAST_CHANGE,), (PARITY,), (SIDES,)],
+    "is_jar": [(LAST_CHANGE, (TAKEN, (1, ((0, 1),)))), (LAST_CHANGE, [TAKEN, (1, ((0, 1),))]), (PARITY, (TAKEN, TAKEN))],
+    "are_books_alike": [(PARITY, LAST_CHANGE), (PARITY, SIDES), (PARITY, DULL)],
+    "books_parting": [(PARITY, LAST_CHANGE), (PARITY, SIDES), (PARITY, DULL)],
+    "is_books_parting": [
+        (PARITY, LAST_CHANGE, BLOCK), (PARITY, LAST_CHANGE, list(BLOCK)), (PARITY, SIDES, BLOCK), (PARITY, DULL, BLOCK),
+    ],
+    "is_pairbook": [(FLIPS,), (list(FLIPS),), (FLIPS[:2] + ([((0, 1), (1, 0)), ((1, 0), (0, 1))],),)],
+    "tint_between": [
+        (FLIPS, BLOCK, None, None), (FLIPS, BLOCK, 0, None), (FLIPS, BLOCK, 0, 1), (FLIPS, BLOCK, 2, 9),
+        (FLIPS, BLOCK, 1, 2), (FLIPS, BLOCK, 1, 0),
+    ],
+    "pair_answer": [(FLIPS, BLOCK), (LAST_PUT, BLOCK)],
+    "tints_that_come": [(FLIPS,), (WIDE,)],
+    "comes": [(FLIPS, SOME), (WIDE, SOME), (FLIPS, THREE), (OF_THREE_LETTERS, BIG)],
+    "is_pair_right": [(FLIPS, SOME), (WIDE, SOME), (FLIPS, THREE), (OF_THREE_LETTERS, BIG)],
+    "pair_parting": [(FLIPS, SOME), (WIDE, SOME), (FLIPS, THREE), (OF_THREE_LETTERS, BIG)],
+    "is_pair_parting": [(FLIPS, SOME, BLOCK), (FLIPS, SOME, list(BLOCK)), (FLIPS, THREE, BLOCK), (OF_THREE_LETTERS, BIG, UP)],
+    "tint_book": [(SOME,), (THREE,), (BIG,)],
+    "fewest_tints": [(SOME,), (THREE,), (BIG,)],
+    "crowded_tint": [(FLIPS, SOME), (WIDE, SOME), (FLIPS, THREE), (OF_THREE_LETTERS, BIG)],
+    "folded_tints": [(WIDE,), (FLIPS,), (LAST_PUT,)],
+    "pairs_parted": [(FLIPS, WIDE), (WIDE, WIDE), (FLIPS, OF_THREE_LETTERS)],
+    "pair_machine": [(WIDE,), (FLIPS,), (LAST_PUT,)],
+    "unsteady_pair": [(LAST_PUT,), (FLIPS,)],
+    "is_unsteady_pair": [(LAST_PUT, ((1, ((0, 1),)), (2, ((0, 1), (1, 0))))), (FLIPS, (BLOCK, BLOCK)), (FLIPS, [BLOCK, BLOCK])],
 }
 
 RETURN_LISTS = ["rises", "stands_come", "texts_along"]
