@@ -191,13 +191,13 @@ class Search:
         kept, fresh = told
         for spot in sorted({spot for spot, _ in sights}):
             steps = self.sights.steps_to(spot)
-            for own in [own for own in sights if own[0] == spot]:
+            for sight in [own for own in sights if own[0] == spot]:
                 for step in steps:
-                    for _, marks, place in ahead.ways_to(step, own[1], is_more):
+                    for _, marks, place in ahead.ways_to(step, sight[1], is_more):
                         if not ahead.rows.lies_in(step.spot, marks):
                             ahead.rows.put(step.spot, marks)
                             fresh.append((step.spot, marks))
-                            self.ways[(step.spot, marks)] = (own, place, step.letter, is_more)
+                            self.ways[(step.spot, marks)] = (sight, place, step.letter, is_more)
                 self.ask_whether_too_much(len(kept) + len(fresh))
 
     def ask_whether_too_much(self, many):

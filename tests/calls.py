@@ -81,6 +81,20 @@ INTERFACE = {
         "pairs_parted(one, other)", "pair_machine(pairbook)", "unsteady_pair(pairbook)",
         "is_unsteady_pair(pairbook, thing)",
     ],
+    "mirrors": [
+        "mirrored_history(history)", "mirrored(book)", "mirrored_machine(machine)", "renamed(book, flags, hues)",
+        "relettered(machine, letters)", "relettered_book(book, letters)", "is_folding(book, thing)", "folding(book)",
+        "folded(book, lots)", "paired(one, other, word)",
+    ],
+    "texts": [
+        "machine_text(machine)", "history_text(history)", "book_text(book)", "pairbook_text(pairbook)",
+        "machine_read(text)", "history_read(text)", "book_read(text)", "pairbook_read(text)",
+    ],
+    "judge": [
+        "is_claim(thing)", "is_so(claim)", "paper(claim)", "is_paper_for(claim, thing)",
+        "is_paper_against(claim, thing)", "verdicts(claims, things)", "comes_of(claim, claims)", "first_false(claims)",
+    ],
+    "desk": ["desk(text)", "is_request(thing)"],
 }
 
 
@@ -104,6 +118,15 @@ def with_lists(value, lists_at, depth=0):
         return value
     inner = [with_lists(own, lists_at, depth + 1) for own in value]
     return inner if lists_at(depth) else tuple(inner)
+
+
+def argument(name, value, lists_at):
+    """value as it may be passed: a `thing` as it is, and each of `things`, all else with lists for tuples."""
+    if name == "thing":
+        return value
+    if name == "things":
+        return list(value) if lists_at(0) else tuple(value)
+    return with_lists(value, lists_at)
 
 
 HERE_AND_THERE = Random(2)
@@ -140,7 +163,7 @@ def all_ways(function, names, values):
     """
     shapes = []
     for _, lists_at in MIXTURES:
-        args = [own if name == "thing" else with_lists(own, lists_at) for name, own in zip(names, values)]
+        args = [argument(name, own, lists_at) for name, own in zip(names, values)]
         before = copy.deepcopy(args)
         calls = [
             lambda: function(*args),

@@ -33,6 +33,11 @@ def _changed(value):
         for at, own in enumerate(value):
             for other in _changed(own):
                 yield value[:at] + (other,) + value[at + 1:]
+    elif isinstance(value, str):
+        yield value + " "
+        yield value[1:]
+        yield value.upper()
+        yield (value,)
     else:
         yield None
         yield str(value)

@@ -19,6 +19,11 @@ SIDES = ((False, True), (0, 0, 1, 1), (0, 0), tuple([tuple([tuple([
     for b in (0, 1)]) for h in range(4)]) for f in (0, 1)]))
 
 
+# whether the latest CHANGE that changed something put a letter
+LATEST = ((False, True), (0, 1), (0, 0), tuple([tuple([tuple([
+    (f if h == b else b, b, STILL, STILL) for b in (0, 1)]) for h in (0, 1)]) for f in (0, 1)]))
+
+
 def dull_book(letters, yes):
     """One FLAG, a HUE for each letter and 0, nothing is told."""
     still = tuple(range(letters + 1))
@@ -61,6 +66,43 @@ def some_book(mixed, letters, going_by="all", flags=3, more_hues=3):
 def some_books(count, seed, going_by="all", letters=(1, 2, 3)):
     mixed = Random(seed)
     return [some_book(mixed, mixed.choice(letters), going_by) for _ in range(count)]
+
+
+def with_row(rows, flag, hue, letter, row):
+    """The rows of a BOOK with another ROW at one place."""
+    rows = [[list(line) for line in lines] for lines in rows]
+    rows[flag][hue][letter] = row
+    return tuple([tuple([tuple(line) for line in lines]) for lines in rows])
+
+
+def bent(mixed, book, times=1):
+    """book with so many ROWS changed, each in one of its four parts."""
+    answers, hues, begin, rows = book
+    for _ in range(times):
+        flag, hue = mixed.randrange(len(answers)), mixed.randrange(len(hues))
+        letter = mixed.randrange(max(hues) + 1)
+        row = list(rows[flag][hue][letter])
+        at = mixed.randrange(4)
+        if at == 0:
+            row[0] = mixed.randrange(len(answers))
+        elif at == 1:
+            row[1] = mixed.choice([own for own, of in enumerate(hues) if of == letter])
+        else:
+            row[at] = some_map(mixed, hues)
+        rows = with_row(rows, flag, hue, letter, tuple(row))
+    return answers, hues, begin, rows
+
+
+def following(machine):
+    """A BOOK with the STATES as FLAGS: plain HISTORIES are answered as the MACHINE takes."""
+    steps, ends = machine
+    letters = range(len(steps[0]) + 1)
+    still = tuple(letters)
+    rows = tuple([
+        tuple([tuple([(row[t - 1] if t and not h else f, t, still, still) for t in letters]) for h in letters])
+        for f, row in enumerate(steps)
+    ])
+    return tuple([f in ends for f in range(len(steps))]), still, (0, 0), rows
 
 
 def some_history(mixed, letters, places=6, changes=12):

@@ -4,10 +4,10 @@ import inspect
 import unittest
 
 from calls import all_ways, function, interface, outcome, shape
-from plain_books import PARITY, SIDES, dull_book
+from plain_books import LATEST, PARITY, SIDES, dull_book
 from plain_groups import BIG, FIRST, ODD, SOME, SQUARE, THREE
 
-LATEST = (((1, 2), (1, 2), (1, 2)), (1,))
+ENDS_WITH = (((1, 2), (1, 2), (1, 2)), (1,))
 DULL = dull_book(2, True)
 # the first HUE BOOK printed
 OF_ODD = ((False, True), (0, 1), (0, 0), (
@@ -24,13 +24,14 @@ LISTS = [3, [[2, 1]]]
 SEEN = (1, (1, 0), ((1, (0, 1)), (0, (1, 0))))
 ROWS = ((0, (1, 0), ()), (1, (0, 1), ()))
 TABLE = tuple([(f, (f, 1 - f), (h, x)) for f in (0, 1) for h in (0, 1) for x in ((0, 1), (1, 0))])
-LAST_CHANGE = ((False, True), (0, 1), (0, 0), tuple([tuple([tuple([
-    (f if h == b else b, b, (0, 1), (0, 1)) for b in (0, 1)]) for h in (0, 1)]) for f in (0, 1)]))
 FLIPS = ((False, True), 0, (((0, 1), (1, 0)), ((1, 0), (0, 1))))
 LAST_PUT = ((False, True), 0, (((0, 0), (1, 1)), ((0, 0), (1, 1))))
 WIDE = ((False, True, True), 0, (((0, 1, 2), (1, 2, 1)), ((1, 1, 2), (2, 1, 1)), ((2, 2, 1), (1, 1, 2))))
 OF_THREE_LETTERS = ((True,), 0, (((0,),) * 4,))
 TAKEN = (2, ((0, 1), (1, 1), (1, 0)))
+# takes the WORDS with 1 at the eighth place: 256 STATES from the other side
+MANY_BACKWARDS = (tuple([(at + 1, at + 1) for at in range(7)]) + ((8, 9), (8, 8), (9, 9)), (8,))
+OF_LINES = "book 1\nanswers no\nhues 0 1\nbegin 0 0" + "\nrow 0 0 left 0 1 right 0 1\nrow 0 1 left 0 1 right 0 1" * 2
 
 CASES = {
     "is_word": [((1, 2),), ([1, 2],)],
@@ -59,8 +60,8 @@ CASES = {
     "is_doing": [(THREE, (1, 0, 2)), (THREE, [1, 0, 2]), (BIG, None)],
     "word_for": [(THREE, (2, 1, 0)), (SOME, (1, 0)), (BIG, (1, 0))],
     "round_of": [((2, 0, 1),), ((1, 2, 2),)],
-    "halting": [(LATEST,), (THREE,), (BIG,)],
-    "is_group": [(THREE,), (LATEST,), (BIG,)],
+    "halting": [(ENDS_WITH,), (THREE,), (BIG,)],
+    "is_group": [(THREE,), (ENDS_WITH,), (BIG,)],
     "commutes": [(THREE,), (SOME,), (BIG,)],
     "crossed": [(THREE,), (SOME,), (BIG,)],
     "surroundings": [(THREE, (1, 2, 0), (2, 0, 1)), (SOME, (1, 1), (1, 1)), (SOME, (1, 0), (1, 1)), (BIG, (), ())],
@@ -182,14 +183,14 @@ CASES = {
     "is_rows": [(PARITY, ODD, ROWS), (PARITY, ODD, list(ROWS)), (PARITY, ODD, ([0, (1, 0), ()],)), (PARITY, SOME, ())],
     "table": [(PARITY, ODD), (SIDES, ODD), (dull_book(1, True), ODD), (DULL, SQUARE), (PARITY, SOME)],
     "is_table": [(PARITY, ODD, TABLE), (PARITY, ODD, list(TABLE)), (PARITY, ODD, ()), (PARITY, SOME, ())],
-    "own_machine": [(PARITY,), (LAST_CHANGE,), (SIDES,), (DULL,)],
-    "is_steady": [(PARITY,), (LAST_CHANGE,), (SIDES,)],
-    "jar": [(LAST_CHANGE,), (PARITY,), (SIDES,)],
-    "is_jar": [(LAST_CHANGE, (TAKEN, (1, ((0, 1),)))), (LAST_CHANGE, [TAKEN, (1, ((0, 1),))]), (PARITY, (TAKEN, TAKEN))],
-    "are_books_alike": [(PARITY, LAST_CHANGE), (PARITY, SIDES), (PARITY, DULL)],
-    "books_parting": [(PARITY, LAST_CHANGE), (PARITY, SIDES), (PARITY, DULL)],
+    "own_machine": [(PARITY,), (LATEST,), (SIDES,), (DULL,)],
+    "is_steady": [(PARITY,), (LATEST,), (SIDES,)],
+    "jar": [(LATEST,), (PARITY,), (SIDES,)],
+    "is_jar": [(LATEST, (TAKEN, (1, ((0, 1),)))), (LATEST, [TAKEN, (1, ((0, 1),))]), (PARITY, (TAKEN, TAKEN))],
+    "are_books_alike": [(PARITY, LATEST), (PARITY, SIDES), (PARITY, DULL)],
+    "books_parting": [(PARITY, LATEST), (PARITY, SIDES), (PARITY, DULL)],
     "is_books_parting": [
-        (PARITY, LAST_CHANGE, BLOCK), (PARITY, LAST_CHANGE, list(BLOCK)), (PARITY, SIDES, BLOCK), (PARITY, DULL, BLOCK),
+        (PARITY, LATEST, BLOCK), (PARITY, LATEST, list(BLOCK)), (PARITY, SIDES, BLOCK), (PARITY, DULL, BLOCK),
     ],
     "is_pairbook": [(FLIPS,), (list(FLIPS),), (FLIPS[:2] + ([((0, 1), (1, 0)), ((1, 0), (0, 1))],),)],
     "tint_between": [
@@ -209,10 +210,53 @@ CASES = {
     "pairs_parted": [(FLIPS, WIDE), (WIDE, WIDE), (FLIPS, OF_THREE_LETTERS)],
     "pair_machine": [(WIDE,), (FLIPS,), (LAST_PUT,)],
     "unsteady_pair": [(LAST_PUT,), (FLIPS,)],
+    "mirrored_history": [(UP,), (LISTS,)],
+    "mirrored": [(PARITY,), (SIDES,)],
+    "mirrored_machine": [(FIRST,), (ODD,), (MANY_BACKWARDS,)],
+    "renamed": [(SIDES, (1, 0), (1, 0, 3, 2)), (SIDES, (1, 0), (0, 1)), (SIDES, (1,), (0,))],
+    "relettered": [(FIRST, (2, 1)), (FIRST, (1,))],
+    "relettered_book": [(DULL, (2, 1)), (DULL, (0, 1))],
+    "is_folding": [(SIDES, ((0, 1), (0, 1, 2, 3))), (SIDES, [(0, 1), (0, 1, 2, 3)]), (SIDES, ([0, 1], (0, 1, 2, 3)))],
+    "folding": [(SIDES,), (DULL,)],
+    "folded": [(SIDES, ((0, 1), (0, 1, 2, 3))), (SIDES, ((0, 1), (0, 0, 1, 1))), (DULL, ((0,), (0, 1, 2)))],
+    "paired": [(PARITY, SIDES, "and"), (PARITY, SIDES, "or"), (PARITY, SIDES, "unlike"), (PARITY, DULL, "or")],
+    "machine_text": [(FIRST,), (ODD,)],
+    "history_text": [(UP,), (LISTS,)],
+    "book_text": [(SIDES,), (DULL,)],
+    "pairbook_text": [(WIDE,), (OF_THREE_LETTERS,)],
+    "machine_read": [("machine 2\nstate 0 0\nends",), ("machine 1\nstate 1\nends",), ("",)],
+    "history_read": [("history 2\nchange 1 1",), ("history 2\nchange 2 1",), ("history 0",)],
+    "book_read": [(OF_LINES,), (OF_LINES.replace("begin 0 0", "begin 0 1"),), (OF_LINES + "\n",)],
+    "pairbook_read": [("pairbook 1\nanswers no\nbegin 0\nrow 0\nrow 0",), ("pairbook 1\nanswers no\nbegin 0\nrow 0",)],
+    "is_claim": [(("group", SOME),), (["group", SOME],), (("class", SOME, 1),)],
+    "is_so": [(("group", SOME),), (("right", PARITY, ODD),), (("class", SOME, 1),), (("group", BIG),)],
+    "paper": [
+        (("group", SQUARE),), (("group", SOME),), (("class", SQUARE, 1),), (("hues", SQUARE, 3),), (("hues", SQUARE, 5),),
+        (("right", PARITY, ODD),), (("steady", LATEST),), (("alike", PARITY, LATEST),), (("hues", SOME, 1),), (("group", BIG),),
+    ],
+    "is_paper_for": [
+        (("class", SQUARE, 2), ()), (("class", SQUARE, 2), []), (("right", PARITY, ODD), ROWS), (("class", SOME, 1), ()),
+        (("group", BIG), ()), (("hues", SQUARE, 0), ()),
+    ],
+    "is_paper_against": [
+        (("class", SQUARE, 1), ((1,), (2,))), (("class", SQUARE, 1), ([1], [2])), (("steady", LATEST), (TAKEN, BLOCK)),
+        (("class", SOME, 1), ()), (("group", BIG), ()),
+    ],
+    "verdicts": [
+        ((("group", SOME), ("steady", PARITY), ("steady", PARITY)), (((1,), (), ()), (), [])), ((), ()),
+        ((("group", SOME),), ()), ((("group", BIG),), (None,)),
+    ],
+    "comes_of": [
+        (("steady", PARITY), (("right", PARITY, ODD),)), (("alike", PARITY, SIDES), (("right", PARITY, ODD),)),
+        (("group", ODD), ()), (("class", SOME, 1), ()),
+    ],
+    "first_false": [((("group", ODD), ("group", SOME)),), ((("group", ODD),),), ((),), ((("group", BIG),),), ((None,),)],
+    "desk": [("put 0 1\ntext\nundo\nundo",), ("",), ("flag\n",), ("history\n x",)],
+    "is_request": [("put 0 12",), ("put 0",), (["flag"],)],
     "is_unsteady_pair": [(LAST_PUT, ((1, ((0, 1),)), (2, ((0, 1), (1, 0))))), (FLIPS, (BLOCK, BLOCK)), (FLIPS, [BLOCK, BLOCK])],
 }
 
-RETURN_LISTS = ["rises", "stands_come", "texts_along"]
+RETURN_LISTS = ["desk", "rises", "stands_come", "texts_along", "verdicts"]
 
 
 class Calls(unittest.TestCase):
@@ -245,6 +289,7 @@ class Calls(unittest.TestCase):
                 got = outcome(lambda: function(file, name)(*values))
                 if got[0] == "returned":
                     self.assertEqual("[" in shape(got[1]), name in RETURN_LISTS)
+                    self.assertIs(isinstance(got[1], list), name in RETURN_LISTS)
 
 
 if __name__ == "__main__":

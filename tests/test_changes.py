@@ -14,7 +14,7 @@ from placehues.changes import (
 from placehues.doings import doings
 from placehues.fewest import hues_of
 from placehues.told import goes_by
-from plain_books import PARITY, SIDES, all_histories, dull_book, plain_parts, some_book
+from plain_books import PARITY, SIDES, all_histories, dull_book, following, plain_parts, some_book
 from plain_groups import BIG, FIRST, FIVE, FULL, ODD, RING, SOME, SQUARE, THREE
 from plain_search import Plain, does_take, small_machines, some_machines, words_upto
 
@@ -244,13 +244,7 @@ class PutPartings(unittest.TestCase):
     def test_alike_but_for_the_order(self):
         # the FLAGS are the STATES: right for plain HISTORIES, and the order of the puts is not that of the places
         for machine in (FIRST, LAST, THREE, SQUARE):
-            letters = range(len(machine[0][0]) + 1)
-            still = tuple(letters)
-            rows = tuple([
-                tuple([tuple([(row[t - 1] if t and not h else f, t, still, still) for t in letters]) for h in letters])
-                for f, row in enumerate(machine[0])
-            ])
-            book = (tuple([f in machine[1] for f in range(len(rows))]), still, (0, 0), rows)
+            book = following(machine)
             self.assertIs(is_put_right(book, machine), False)
             self.assertIs(plain_parts(book, machine, put_parting(book, machine)), True)
 

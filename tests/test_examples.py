@@ -52,7 +52,7 @@ class Examples(unittest.TestCase):
                 else:
                     expected = ("returned", eval(shown, {}))
                 self.assertEqual(shape(outcome(lambda: eval(typed, names))), shape(expected))
-        self.assertEqual(asked, 89)
+        self.assertEqual(asked, 111)
 
 
 if __name__ == "__main__":

@@ -13,7 +13,7 @@ from placehues.judged import (
 from placehues.made import hue_book
 from placehues.words import is_history
 from plain_books import (
-    PARITY, SIDES, all_histories, dull_book, plain_parts, some_book, some_books, some_history, some_map,
+    PARITY, SIDES, all_histories, bent, dull_book, plain_parts, some_book, some_books, some_history, with_row,
 )
 from plain_groups import (
     ALL, BIG, EVEN, FIRST, FIVE, FULL, GROUPS, NO_GROUPS, NONE, ODD, PlainGroup, QUATERNIONS, SOME, SQUARE, THREE,
@@ -24,28 +24,6 @@ THIRDS, EVENS = (((1,), (2,), (0,)), (0,)), (((1,), (0,)), (0,))
 TWO_LETTERS = (((1, 0), (0, 1)), (1,))
 ALL_OF_ONE = (((0,),), (0,))
 SMALL = [ODD, EVENS, THIRDS, ALL_OF_ONE, NONE]
-
-
-def bent(mixed, book):
-    """book with one ROW changed."""
-    answers, hues, begin, rows = book
-    flag, hue = mixed.randrange(len(answers)), mixed.randrange(len(hues))
-    letter = mixed.randrange(max(hues) + 1)
-    row = list(rows[flag][hue][letter])
-    at = mixed.randrange(4)
-    if at == 0:
-        row[0] = mixed.randrange(len(answers))
-    elif at == 1:
-        row[1] = mixed.choice([own for own, of in enumerate(hues) if of == letter])
-    else:
-        row[at] = some_map(mixed, hues)
-    return answers, hues, begin, with_row(rows, flag, hue, letter, tuple(row))
-
-
-def with_row(rows, flag, hue, letter, row):
-    rows = [[list(line) for line in lines] for lines in rows]
-    rows[flag][hue][letter] = row
-    return tuple([tuple([tuple(line) for line in lines]) for lines in rows])
 
 
 def small_pairs(count, seed):

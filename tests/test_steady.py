@@ -17,26 +17,10 @@ from placehues.steady import (
 )
 from placehues.words import is_history
 from plain_books import (
-    PARITY, SIDES, all_histories, dull_book, plain_answer, plain_reads, plain_text, some_book, some_map,
+    LATEST, PARITY, SIDES, all_histories, bent, dull_book, following, plain_answer, plain_reads, plain_text, some_book,
 )
 from plain_groups import ALL, BIG, EVEN, FIRST, FIVE, FULL, NONE, ODD, RING, SOME, SQUARE, THREE
 from plain_search import does_take, small_machines, words_upto
-
-STILL = (0, 1)
-LATEST = ((False, True), (0, 1), (0, 0), tuple([tuple([tuple([
-    (f if h == b else b, b, STILL, STILL) for b in (0, 1)]) for h in (0, 1)]) for f in (0, 1)]))
-
-
-def following(machine):
-    """A BOOK with the STATES as FLAGS: plain HISTORIES are answered as the MACHINE takes."""
-    steps, ends = machine
-    letters = range(len(steps[0]) + 1)
-    still = tuple(letters)
-    rows = tuple([
-        tuple([tuple([(row[t - 1] if t and not h else f, t, still, still) for t in letters]) for h in letters])
-        for f, row in enumerate(steps)
-    ])
-    return tuple([f in ends for f in range(len(steps))]), still, (0, 0), rows
 
 
 def some_small_book(mixed, letters, going_by):
@@ -44,22 +28,6 @@ def some_small_book(mixed, letters, going_by):
         book = some_book(mixed, letters, going_by, 4, 7 - letters)
         if len(book[1]) <= 8:
             return book
-
-
-def bent(mixed, book, times):
-    """book with so many ROWS changed."""
-    answers, hues, begin, rows = book
-    for _ in range(times):
-        rows = [[list(line) for line in lines] for lines in rows]
-        flag, hue = mixed.randrange(len(answers)), mixed.randrange(len(hues))
-        letter = mixed.randrange(max(hues) + 1)
-        to = mixed.choice([own for own, of in enumerate(hues) if of == letter])
-        left, right = rows[flag][hue][letter][2:]
-        if mixed.random() < 0.3:
-            left, right = some_map(mixed, hues), some_map(mixed, hues)
-        rows[flag][hue][letter] = (mixed.randrange(len(answers)), to, left, right)
-        rows = tuple([tuple([tuple(line) for line in lines]) for lines in rows])
-    return answers, hues, begin, rows
 
 
 def renumbered(mixed, book):
@@ -157,8 +125,8 @@ class Steady(unittest.TestCase):
                 self.assertEqual(refused(jar, book), "CanNot")
             else:
                 self.one(book, jar(book))
-        self.assertEqual(len(seen), 3)
         self.assertGreater(seen[(True, False)], 20)
+        self.assertGreater(seen[(False, True)], 20)
 
     def one(self, book, pair):
         one, other = pair
@@ -221,9 +189,9 @@ class Steady(unittest.TestCase):
 
 class Jars(unittest.TestCase):
     def test_all_short_pairs(self):
-        histories = list(all_histories(1, 2, 2)) + list(all_histories(1, 3, 1))
+        histories = list(all_histories(1, 2, 3)) + list(all_histories(1, 3, 1))
         seen = {True: 0, False: 0}
-        for book in (LATEST, PARITY, bent(Random(1), SIDES, 1), bent(Random(2), PARITY, 1)):
+        for book in (LATEST, PARITY, bent(Random(1), SIDES, 2), bent(Random(2), PARITY, 2)):
             for one, other in all_rows(histories, repeat=2):
                 expected = plain_reads(plain_text(one)) == plain_reads(plain_text(other))
                 expected = expected and plain_answer(book, one) != plain_answer(book, other)
