@@ -40,14 +40,13 @@ class Rows:
 
     def go_on(self, nodes, mark):
         """The nodes behind one mark more; None if one of the set lies in what they stand for."""
-        found = []
-        for node in nodes:
-            after = self.leads[node].get(mark)
-            if after is not None and after not in nodes:
-                if self.ends[after]:
-                    return None
-                found.append(after)
-        return tuple(sorted(nodes + tuple(found))) if len(found) > 0 else nodes
+        leads = self.leads
+        found = [leads[node][mark] for node in nodes if mark in leads[node]]
+        if len(found) == 0:
+            return nodes
+        if any([self.ends[node] for node in found]):
+            return None
+        return nodes + tuple([node for node in found if node not in nodes])
 
     def lies_in(self, spot, marks):
         """Whether one of the set lies in the SIGHT of this spot and these marks."""
@@ -73,19 +72,18 @@ class Ahead:
         self.allowed = allowed
         self.only_asked = only_asked
 
-    def may_be(self, spot, mark):
-        """Whether a mark may stand beside a spot."""
-        return self.allowed is None or mark in self.allowed.get(spot, {})
+    def fit_marks(self, spot, marks):
+        """The list of those of marks that may stand beside a spot."""
+        return [mark for mark in marks if self.allowed is None or mark in self.allowed.get(spot, {})]
 
-    def grown(self, spot, ways, marks, is_changed):
-        """The dict of the ways, each with one of marks behind it that may stand there."""
-        fit = [mark for mark in marks if self.may_be(spot, mark)]
+    def grown(self, ways, marks, is_changed):
+        """The dict of the ways, each with one of marks behind it."""
         grown = {}
         for nodes, own, place in ways:
-            for mark in fit:
+            for mark in marks:
                 after = self.rows.go_on(nodes, mark)
                 if after is not None and self.only_asked:
-                    grown[(after, (), 0)] = True
+                    grown[(tuple(sorted(after)), (), 0)] = True
                 elif after is not None:
                     grown[(after, own + (mark,), len(own) if is_changed else place)] = True
         return grown
@@ -96,18 +94,22 @@ class Ahead:
         A mark more is the changed one, with none of marks in its place.
         """
         nodes = self.rows.begin(step.spot)
-        if nodes is None or self.rows.go_on(nodes, step.mark) is None or not self.may_be(step.spot, step.mark):
+        if nodes is None or not is_more and not any([mark in step.letters_to for mark in marks]):
             return {}
+        changed = [mark for mark in self.fit_marks(step.spot, step.letters) if self.rows.go_on(nodes, mark) is not None]
         ahead, behind = {(nodes, (), 0): True}, {}
         for mark in marks:
+            if len(changed) == 0 or len(ahead) + len(behind) == 0:
+                return {}
             if is_more:
-                behind.update(self.grown(step.spot, ahead, [step.mark], True))
-            behind = self.grown(step.spot, behind, self.sights.behind_of(step, mark), False)
-            if not is_more and mark == step.after:
-                behind.update(self.grown(step.spot, ahead, [step.mark], True))
-            ahead = self.grown(step.spot, ahead, self.sights.ahead_of(step, mark), False)
+                behind.update(self.grown(ahead, changed, True))
+            behind = self.grown(behind, self.fit_marks(step.spot, self.sights.behind_of(step, mark)), False)
+            if not is_more and mark in step.letters_to:
+                led = step.letters_to[mark]
+                behind.update(self.grown(ahead, [own for own in changed if own in led], True))
+            ahead = self.grown(ahead, self.fit_marks(step.spot, self.sights.ahead_of(step, mark)), False)
         if is_more:
-            behind.update(self.grown(step.spot, ahead, [step.mark], True))
+            behind.update(self.grown(ahead, changed, True))
         return behind
 
 
@@ -123,6 +125,7 @@ class Search:
         self.most = most
         self.allowed = allowed
         self.ways = {}
+        self.steps = {}
         self.found = [(spot, ()) for spot in sights.wrong_spots() if allowed is None or spot in allowed]
         self.fresh = list(self.found)
 
@@ -189,16 +192,18 @@ class Search:
     def add_ahead_of(self, sights, ahead, is_more, told):
         """Adds to what is told, kept and fresh, the SIGHTS that are one CHANGE ahead of sights."""
         kept, fresh = told
-        for spot in sorted({spot for spot, _ in sights}):
-            steps = self.sights.steps_to(spot)
-            for sight in [own for own in sights if own[0] == spot]:
-                for step in steps:
-                    for _, marks, place in ahead.ways_to(step, sight[1], is_more):
-                        if not ahead.rows.lies_in(step.spot, marks):
-                            ahead.rows.put(step.spot, marks)
-                            fresh.append((step.spot, marks))
-                            self.ways[(step.spot, marks)] = (sight, place, step.letter, is_more)
-                self.ask_whether_too_much(len(kept) + len(fresh))
+        for sight in sights:
+            spot, marks = sight
+            if spot not in self.steps:
+                self.steps[spot] = self.sights.steps_to(spot)
+            for step in self.steps[spot]:
+                for _, own, place in ahead.ways_to(step, marks, is_more):
+                    if not ahead.rows.lies_in(step.spot, own):
+                        ahead.rows.put(step.spot, own)
+                        fresh.append((step.spot, own))
+                        letters = step.letters if is_more else step.letters_to[marks[place]]
+                        self.ways[(step.spot, own)] = (sight, place, letters[own[place]], is_more)
+            self.ask_whether_too_much(len(kept) + len(fresh))
 
     def ask_whether_too_much(self, many):
         """Raises TooMuch() if so many are more than most."""

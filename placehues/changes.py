@@ -67,26 +67,26 @@ def put_book(machine):
     Its FLAGS are the DOINGS of what was put.
     """
     products = _commuting(machine)
-    every = range(len(products.letters))
 
     def led(flag, hue, letter):
         # a place that is not free is never asked
         return products.times(flag, products.letters[letter if hue == 0 else 0]), letter
 
-    return _book_of(products, tuple(every), led)
+    return _book_of(products, tuple(range(len(products.letters))), led)
 
 
 def _book_of(products, hues, led):
     """The BOOK that goes by "nobody", with the DOINGS as FLAGS, and led telling the FLAG and HUE of each ROW."""
-    every, still = range(len(products.doings)), tuple(range(len(hues)))
+    still = tuple(range(len(hues)))
     rows = []
-    for flag in every:
+    for flag in range(len(products.doings)):
         lines = []
         for hue in still:
             told = [led(flag, hue, letter) for letter in range(len(products.letters))]
             lines.append(tuple([(after, own, still, still) for after, own in told]))
         rows.append(tuple(lines))
-    return tuple([products.is_taken(one) for one in every]), hues, (products.one, 0), tuple(rows)
+    answers = tuple([products.is_taken(one) for one in range(len(products.doings))])
+    return answers, hues, (products.one, 0), tuple(rows)
 
 
 def back_book(machine):

@@ -9,14 +9,25 @@ from placehues.kinds import as_tuples
 
 
 class Step:
-    """A CHANGE at a mark that leads from a spot to another one, and how the other marks came of theirs."""
+    """CHANGES that lead from one spot to another one, and put the other marks in one way.
 
-    def __init__(self, spot, mark, letter, after, backs):
+    letters has for each mark at which there is such a CHANGE the letter of one;
+    letters_to has, for each mark that it becomes, these alone. left and right
+    have for each HUE those that are put by it; back undoes the turn.
+    """
+
+    def __init__(self, spot, left, right, back):
         self.spot = spot
-        self.mark = mark
-        self.letter = letter
-        self.after = after
-        self.left, self.right, self.back = backs
+        self.left = left
+        self.right = right
+        self.back = back
+        self.letters = {}
+        self.letters_to = {}
+
+    def add_change(self, mark, letter, after):
+        """Adds a CHANGE at mark, which becomes after."""
+        self.letters[mark] = letter
+        self.letters_to.setdefault(after, {})[mark] = letter
 
 
 class Sights:
@@ -29,16 +40,17 @@ class Sights:
         # ONE has the number 0
         self.spot, self.mark = begin[0] * self.many, begin[1] * self.many
         self.turned = {}
-        self.backs = {}
+        self.map_numbers = {}
+        self.backs = []
         self.into = self.all_into()
 
     def all_into(self):
-        """The list with for each FLAG what leads to it: FLAG, HUE, letter, next HUE and both maps of the ROWS."""
+        """The list with for each FLAG what leads to it: FLAG, HUE, letter, next HUE and the numbers of both maps."""
         into = [[] for _ in self.answers]
         for flag, lines in enumerate(self.rows):
             for hue, line in enumerate(lines):
                 for letter, (after, own, left, right) in enumerate(line):
-                    into[after].append((flag, hue, letter, own, left, right))
+                    into[after].append((flag, hue, letter, own, self.map_number(left), self.map_number(right)))
         return into
 
     def is_wrong(self, spot):
@@ -77,26 +89,29 @@ class Sights:
         hue, one = divmod(mark, self.many)
         return right[hue] * self.many + self.group.times(turn, one)
 
-    def steps_to(self, spot):
-        """The list of the Steps that lead to this spot."""
-        flag, whole = divmod(spot, self.many)
-        steps = []
-        for before, hue, letter, own, left, right in self.into[flag]:
-            for one in range(self.many):
-                back = self.group.turn(one, letter, self.hues[hue])
-                ahead = before * self.many + self.group.times(back, whole)
-                backs = (self.backs_of(left), self.backs_of(right), back)
-                steps.append(Step(ahead, hue * self.many + one, letter, own * self.many + one, backs))
-        return steps
-
-    def backs_of(self, hue_map):
-        """The list with for each HUE the list of those that a map puts by it."""
-        if hue_map not in self.backs:
+    def map_number(self, hue_map):
+        """The number of a map, under which backs has for each HUE the list of those that it puts by this HUE."""
+        if hue_map not in self.map_numbers:
+            self.map_numbers[hue_map] = len(self.backs)
             found = [[] for _ in hue_map]
             for hue, after in enumerate(hue_map):
                 found[after].append(hue)
-            self.backs[hue_map] = found
-        return self.backs[hue_map]
+            self.backs.append(found)
+        return self.map_numbers[hue_map]
+
+    def steps_to(self, spot):
+        """The list of the Steps that lead to this spot."""
+        flag, whole = divmod(spot, self.many)
+        steps = {}
+        for before, hue, letter, own, left, right in self.into[flag]:
+            for one in range(self.many):
+                back = self.group.turn(one, letter, self.hues[hue])
+                key = (before, left, right, back)
+                if key not in steps:
+                    ahead = before * self.many + self.group.times(back, whole)
+                    steps[key] = Step(ahead, self.backs[left], self.backs[right], back)
+                steps[key].add_change(hue * self.many + one, letter, own * self.many + one)
+        return list(steps.values())
 
     def ahead_of(self, step, mark):
         """The list of the marks ahead of the CHANGE of which mark came."""

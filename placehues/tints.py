@@ -38,7 +38,7 @@ class Together:
 
     def __init__(self, one, other, most):
         self.table, self.other_table = one[2], other[2]
-        self.letters = range(len(one[2][0]))
+        self.letters = list(range(len(one[2][0])))
         self.most = most
         start = (one[1], other[1])
         self.cheapest = {start: 0}
