@@ -31,6 +31,39 @@ def dull_book(letters, yes):
     return (yes,), still, (0, 0), ((line,) * (letters + 1),)
 
 
+def going_round(*lengths):
+    """A map of the HUES of 0, which it sends about in rounds of these lengths, and of one HUE of 1; and one that leaves."""
+    turn = []
+    for length in lengths:
+        start = len(turn)
+        turn += [start + (at + 1) % length for at in range(length)]
+    return tuple(turn) + (len(turn),), tuple(range(len(turn) + 1))
+
+
+def some_going_round(*lengths):
+    """A BOOK that answers True as soon as a letter was put, and whose free HUES are sent about in rounds to the left."""
+    left, still = going_round(*lengths)
+    free = len(still) - 1
+    rows = tuple([tuple([((flag, 0, left, still), (1, free, left, still)) for _ in still]) for flag in (0, 1)])
+    return (False, True), (0,) * free + (1,), (0, 0), rows
+
+
+def one_latest(answers):
+    """A BOOK with these answers in which no two places have the HUE of the latest at once.
+
+    HUES: 0, 1, 2 of 0, and 3, 4, 5 of the letter: 1 and 4 for the latest, 2 and 5 if it is changed again.
+    FLAGS: no CHANGE; the latest stands; it is changed again, none has it; the latest is changed though none has it.
+    """
+    still, calm = tuple(range(6)), (0, 0, 0, 3, 3, 3)
+
+    def row(flag, hue, letter):
+        if flag in (1, 2) and hue % 3 == 1 or flag == 3:
+            return (min(flag + 1, 3), 3 * letter + 2, still, still)
+        return (1, 3 * letter + 1, calm, calm)
+    rows = tuple([tuple([tuple([row(f, h, t) for t in (0, 1)]) for h in range(6)]) for f in range(4)])
+    return answers, (0, 0, 0, 1, 1, 1), (0, 0), rows
+
+
 def some_map(mixed, hues):
     return tuple([mixed.choice([g for g, own in enumerate(hues) if own == letter]) for letter in hues])
 

@@ -19,7 +19,7 @@ from placehues.made import hue_book
 from placehues.machines import is_machine
 from placehues.mirrors import renamed
 from placehues.steady import are_books_alike, is_books_parting, is_jar, is_steady
-from plain_books import LATEST, PARITY, SIDES, bent, dull_book, following, some_book
+from plain_books import LATEST, PARITY, SIDES, bent, dull_book, following, some_book, some_going_round
 from plain_groups import (
     ALL, BIG, EVEN, FIRST, FIVE, FULL, GROUPS, NO_GROUPS, NONE, OCTAGON, ODD, QUATERNIONS, SOME, SQUARE, THREE,
 )
@@ -297,14 +297,7 @@ class TooMuch(unittest.TestCase):
 
     def test_of_paper_alone(self):
         # steady is soon told, a JAR of it would be too long
-        turn = []
-        for length in (13, 31):
-            start = len(turn)
-            turn += [start + (at + 1) % length for at in range(length)]
-        free = len(turn)
-        left, still = tuple(turn) + (free,), tuple(range(free + 1))
-        rows = tuple([tuple([((flag, 0, left, still), (1, free, left, still)) for _ in still]) for flag in (0, 1)])
-        claim = ("steady", ((False, True), (0,) * free + (1,), (0, 0), rows))
+        claim = ("steady", some_going_round(13, 31))
         self.assertIs(is_so(claim), False)
         self.assertEqual(refused(paper, claim), "TooMuch")
         self.assertEqual(verdicts((claim,), ((),)), ["none"])

@@ -13,7 +13,8 @@ from placehues.judged import (
 from placehues.made import hue_book
 from placehues.words import is_history
 from plain_books import (
-    PARITY, SIDES, all_histories, bent, dull_book, plain_parts, some_book, some_books, some_history, with_row,
+    PARITY, SIDES, all_histories, bent, dull_book, one_latest, plain_parts, some_book, some_books, some_history,
+    with_row,
 )
 from plain_groups import (
     ALL, BIG, EVEN, FIRST, FIVE, FULL, GROUPS, NO_GROUPS, NONE, ODD, PlainGroup, QUATERNIONS, SOME, SQUARE, THREE,
@@ -70,23 +71,7 @@ def ladder(y, x, z, u, a, b, more):
     return ((False,) + (True,) * 5, (0,) * free + (1,), (1, 0), rows), many
 
 
-def one_latest():
-    """A BOOK that is right for what takes all, in which no two places have the HUE of the latest at once.
-
-    HUES: 0, 1, 2 of 0, and 3, 4, 5 of the letter: 1 and 4 for the latest, 2 and 5 if it is changed again.
-    FLAGS: no CHANGE; the latest stands; it is changed again, none has it; the latest is changed though none has it.
-    """
-    still, calm = tuple(range(6)), (0, 0, 0, 3, 3, 3)
-
-    def row(flag, hue, letter):
-        if flag in (1, 2) and hue % 3 == 1 or flag == 3:
-            return (min(flag + 1, 3), 3 * letter + 2, still, still)
-        return (1, 3 * letter + 1, calm, calm)
-    rows = tuple([tuple([tuple([row(f, h, t) for t in (0, 1)]) for h in range(6)]) for f in range(4)])
-    return (True, True, True, False), (0, 0, 0, 1, 1, 1), (0, 0), rows
-
-
-ONE_LATEST = one_latest()
+ONE_LATEST = one_latest((True, True, True, False))
 
 
 class Sights(unittest.TestCase):

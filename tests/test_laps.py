@@ -13,7 +13,7 @@ from placehues.laps import is_twins, lap, standing_machine, stuck_parting, twins
 from placehues.machines import is_machine, least, takes
 from placehues.words import is_history
 from plain_books import (
-    PARITY, SIDES, STILL, all_histories, dull_book, plain_parts, plain_reads, plain_stands, plain_text, plain_turned,
+    PARITY, SIDES, STILL, all_histories, dull_book, going_round, plain_parts, plain_reads, plain_stands, plain_text, plain_turned,
     some_book, some_books,
 )
 from plain_groups import BIG, FIRST, FIVE, NO_GROUPS, ODD, SOME, SQUARE, THREE
@@ -27,12 +27,8 @@ TWICE = ((False, True, True), (0, 1), (0, 0), tuple([tuple([tuple([
 
 def cycles(*lengths):
     """A BOOK whose free HUES are sent about in rounds of these lengths, to the left."""
-    round_map = []
-    for length in lengths:
-        start = len(round_map)
-        round_map += [start + (at + 1) % length for at in range(length)]
-    many = len(round_map)
-    left, still = tuple(round_map) + (many,), tuple(range(many + 1))
+    left, still = going_round(*lengths)
+    many = len(still) - 1
     line = ((0, 0, left, still), (0, many, left, still))
     return ((True,), (0,) * many + (1,), (0, 0), ((line,) * (many + 1),))
 

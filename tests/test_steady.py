@@ -17,7 +17,8 @@ from placehues.steady import (
 )
 from placehues.words import is_history
 from plain_books import (
-    LATEST, PARITY, SIDES, all_histories, bent, dull_book, following, plain_answer, plain_reads, plain_text, some_book,
+    LATEST, PARITY, SIDES, all_histories, bent, dull_book, following, one_latest, plain_answer, plain_reads, plain_text,
+    some_book, some_going_round,
 )
 from plain_groups import ALL, BIG, EVEN, FIRST, FIVE, FULL, NONE, ODD, RING, SOME, SQUARE, THREE
 from plain_search import does_take, small_machines, words_upto
@@ -169,16 +170,7 @@ class Steady(unittest.TestCase):
     def test_too_much_of_jar_alone(self):
         # its free HUES go round in 13 and in 31, so in 403: five times that is too much; whether a letter stands somewhere
         for rounds, told in (((13, 31), "TooMuch"), ((8, 49), None)):
-            turn = []
-            for length in rounds:
-                start = len(turn)
-                turn += [start + (at + 1) % length for at in range(length)]
-            free = len(turn)
-            left, still = tuple(turn) + (free,), tuple(range(free + 1))
-            rows = tuple([
-                tuple([((flag, 0, left, still), (1, free, left, still)) for _ in still]) for flag in (0, 1)
-            ])
-            book = ((False, True), (0,) * free + (1,), (0, 0), rows)
+            book = some_going_round(*rounds)
             self.assertIs(is_book(book), True)
             self.assertEqual(own_machine(book), SOME)
             self.assertIs(is_steady(book), False)
@@ -267,18 +259,10 @@ class Alike(unittest.TestCase):
 
     def test_alike_though_places_by_themselves_would_not_tell(self):
         # no two places have HUE 1 at once: so what comes of it then makes no difference
-        still, calm = tuple(range(6)), (0, 0, 0, 3, 3, 3)
-
-        def book(wrong):
-            def row(flag, hue, letter):
-                if flag in (1, 2) and hue % 3 == 1 or flag == 3:
-                    return (min(flag + 1, 3), 3 * letter + 2, still, still)
-                return (1, 3 * letter + 1, calm, calm)
-            rows = tuple([tuple([tuple([row(f, h, t) for t in (0, 1)]) for h in range(6)]) for f in range(4)])
-            return (True, True, False, wrong), (0, 0, 0, 1, 1, 1), (0, 0), rows
-        self.assertIs(is_book(book(True)), True)
-        self.assertIs(self.one(book(True), book(False)), True)
-        self.assertIs(is_steady(book(True)), False)
+        one, other = [one_latest((True, True, False, wrong)) for wrong in (True, False)]
+        self.assertIs(is_book(one), True)
+        self.assertIs(self.one(one, other), True)
+        self.assertIs(is_steady(one), False)
 
     def test_refusals(self):
         for function in (are_books_alike, books_parting):
