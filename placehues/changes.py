@@ -111,8 +111,10 @@ def back_book(machine):
             return after, starts[letter] + sources[letter - 1][after].index(flag)
         if hue == 0 or letter > 0:
             return flag, starts[letter]
+        # a FLAG that is not come to with this HUE is never asked
         ahead = sources[hues[hue] - 1][flag]
-        return ahead[places[hue]] if places[hue] < len(ahead) else flag, 0
+        before = ahead[places[hue]] if places[hue] < len(ahead) else flag
+        return before, 0
 
     return _book_of(products, tuple(hues), led)
 

@@ -5,7 +5,7 @@ from placehues.errors import BadLine, CanNot, NoPlace, Unfit
 from placehues.machines import letters_in, takes
 from placehues.texts import book_read, history_read, history_text, is_figures, machine_read
 from placehues.told import told_of
-from placehues.words import has_letters, reads
+from placehues.words import reads
 
 MOST_FIGURES = 9
 WITH_TEXT = ("book", "machine", "history")

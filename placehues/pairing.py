@@ -4,11 +4,11 @@ from placehues.kinds import as_tuples
 
 
 class Pairs:
-    """The pairs of a number from each of two rows, numbered 0, 1, .. as they ascend; only those kept by fits."""
+    """Pairs of FLAGS, or of HUES, of two BOOKS, in their order, and the number of each."""
 
-    def __init__(self, many, other_many, fits):
-        self.all = [(one, other) for one in range(many) for other in range(other_many) if fits(one, other)]
-        self.numbers = {pair: number for number, pair in enumerate(self.all)}
+    def __init__(self, pairs):
+        self.pairs = pairs
+        self.numbers = {pair: number for number, pair in enumerate(pairs)}
 
 
 def side_by_side(one, other, tells):
@@ -19,19 +19,21 @@ def side_by_side(one, other, tells):
     """
     answers, hues, begin, rows = as_tuples(one)
     other_answers, other_hues, other_begin, other_rows = as_tuples(other)
-    flag_pairs = Pairs(len(answers), len(other_answers), lambda flag, after: True)
-    hue_pairs = Pairs(len(hues), len(other_hues), lambda hue, after: hues[hue] == other_hues[after])
+    flag_pairs = Pairs([(flag, after) for flag in range(len(answers)) for after in range(len(other_answers))])
+    hue_pairs = Pairs([
+        (hue, after) for hue, letter in enumerate(hues) for after, own in enumerate(other_hues) if own == letter
+    ])
     maps = {}
-    told = tuple([tells(answers[flag], other_answers[after]) for flag, after in flag_pairs.all])
+    told = tuple([tells(answers[flag], other_answers[after]) for flag, after in flag_pairs.pairs])
     start = (flag_pairs.numbers[(begin[0], other_begin[0])], hue_pairs.numbers[(begin[1], other_begin[1])])
     lines = [
         tuple([
             _line_of(rows[flag][hue], other_rows[other_flag][other_hue], (flag_pairs, hue_pairs, maps))
-            for hue, other_hue in hue_pairs.all
+            for hue, other_hue in hue_pairs.pairs
         ])
-        for flag, other_flag in flag_pairs.all
+        for flag, other_flag in flag_pairs.pairs
     ]
-    return told, tuple([hues[hue] for hue, _ in hue_pairs.all]), start, tuple(lines)
+    return told, tuple([hues[hue] for hue, _ in hue_pairs.pairs]), start, tuple(lines)
 
 
 def _line_of(line, other_line, pairs):
@@ -47,5 +49,5 @@ def _line_of(line, other_line, pairs):
 def _both(hue_pairs, maps, one, other):
     """The map of pairs of HUES that does what two maps do; each is made but once."""
     if (one, other) not in maps:
-        maps[(one, other)] = tuple([hue_pairs.numbers[(one[hue], other[after])] for hue, after in hue_pairs.all])
+        maps[(one, other)] = tuple([hue_pairs.numbers[(one[hue], other[after])] for hue, after in hue_pairs.pairs])
     return maps[(one, other)]

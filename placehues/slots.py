@@ -1,6 +1,6 @@
 """Rows of slots, behind which a BOOK that tells too little has one FLAG where the MACHINE wants two."""
 
-from placehues.books import letters_of, stand_behind
+from placehues.books import stand_behind
 from placehues.centres import exponent_of
 from placehues.doings import crossed, least_surroundings
 from placehues.errors import CanNot

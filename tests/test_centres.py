@@ -10,7 +10,7 @@ from placehues.centres import (
     twists,
 )
 from plain_groups import (
-    ALL, BIG, EVEN, FIVE, FULL, GROUPS, NO_GROUPS, NONE, OCTAGON, ODD, PlainGroup, RING, SOME, SQUARE, THREE,
+    ALL, BIG, EVEN, FIVE, FULL, GROUPS, NO_GROUPS, NONE, OCTAGON, ODD, PlainGroup, RING, SQUARE, THREE,
     small_groups,
 )
 from plain_search import then

@@ -161,7 +161,7 @@ class Judging(unittest.TestCase):
                 self.assertIs(is_paper_against(claim, thing), told == ["against"])
 
     def test_nearly(self):
-        for claim, so in ALL_CLAIMS[::9] + [(("hues", SQUARE, 4), True), (("hues", SQUARE, 5), False)]:
+        for claim in [own for own, _ in ALL_CLAIMS[::9]] + [("hues", SQUARE, 4), ("hues", SQUARE, 5)]:
             for thing in variants(paper(claim))[:600]:
                 expected = self.by_section(claim, thing)
                 self.assertEqual(verdicts((claim,), (thing,)), [expected], (claim, thing))

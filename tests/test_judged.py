@@ -17,7 +17,7 @@ from plain_books import (
     with_row,
 )
 from plain_groups import (
-    ALL, BIG, EVEN, FIRST, FIVE, FULL, GROUPS, NO_GROUPS, NONE, ODD, PlainGroup, QUATERNIONS, SOME, SQUARE, THREE,
+    ALL, BIG, EVEN, FIVE, FULL, GROUPS, NO_GROUPS, NONE, ODD, PlainGroup, QUATERNIONS, SOME, SQUARE, THREE,
 )
 from plain_sights import PlainSights, lies
 

@@ -9,7 +9,7 @@ from odd_values import ODD_VALUES, variants
 from placehues.books import is_book
 from placehues.made import hue_book, parts_for
 from placehues.told import goes_by, is_parts, levels_for, told_for, told_of
-from plain_books import PARITY, SIDES, dull_book, some_book, some_books, some_map
+from plain_books import PARITY, SIDES, dull_book, some_books, some_map
 from plain_groups import BIG, FIVE, NO_GROUPS, OCTAGON, PlainGroup, RING, SQUARE, THREE, small_groups
 
 WORDS = ("all", "blind", "flag", "letters", "nobody", "side")
