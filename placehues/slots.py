@@ -21,7 +21,8 @@ def is_deal(thing):
 
 def dealt(deal):
     """The WORD that deal reads."""
-    return tuple([letter for _, letter in sorted([(spot, letter) for spot, letter in deal]) if letter > 0])
+    spots = sorted([(spot, letter) for spot, letter in deal])
+    return tuple([letter for _, letter in spots if letter > 0])
 
 
 def like_deals(machine, word):

@@ -122,6 +122,18 @@ class Reader:
         flag, own = self.fit_numbers(words[:2])
         return flag, own, self.fit_numbers(words[3:many + 3]), self.fit_numbers(words[many + 4:])
 
+    def read_line(self, many, letters):
+        """The tuple of the ROWS of one FLAG and one HUE, each map having so many HUES, in the next lines."""
+        return tuple([self.read_row(many) for _ in range(letters + 1)])
+
+    def read_rows(self, many, letters):
+        """The tuple of the ROWS of one FLAG, a line of them for each of so many HUES."""
+        return tuple([self.read_line(many, letters) for _ in range(many)])
+
+    def read_lines(self, many, letters):
+        """The tuple with for each letter what a table has for one TINT and each of so many behind it."""
+        return tuple([self.read_so_many("row", many) for _ in range(letters + 1)])
+
     def told(self, thing, is_fit):
         """thing, if no lines are left; Unfit() if it is not fit."""
         if self.has_more():
@@ -163,9 +175,7 @@ def book_read(text):
     hues = reader.read_numbers("hues")
     reader.ask(len(hues) > 0)
     begin = reader.read_so_many("begin", 2)
-    rows = tuple([
-        tuple([tuple([reader.read_row(len(hues)) for _ in range(letters + 1)]) for _ in hues]) for _ in answers
-    ])
+    rows = tuple([reader.read_rows(len(hues), letters) for _ in answers])
     book = (answers, hues, begin, rows)
     return reader.told(book, is_book(book))
 
@@ -176,7 +186,6 @@ def pairbook_read(text):
     letters = reader.read_many("pairbook")
     answers = reader.read_answers()
     begin = reader.read_so_many("begin", 1)[0]
-    many = len(answers)
-    table = tuple([tuple([reader.read_so_many("row", many) for _ in range(letters + 1)]) for _ in answers])
+    table = tuple([reader.read_lines(len(answers), letters) for _ in answers])
     pairbook = (answers, begin, table)
     return reader.told(pairbook, is_pairbook(pairbook))
