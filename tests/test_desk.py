@@ -187,7 +187,7 @@ UNFIT = ["", " ", "\n", "flag ", " flag", "Flag", "flags", "flag 1", "flag\n x",
          "places 01", "places -1", "places 1 1", "places 1 ", "places  1", "places 1000000000", "places x", "places 1\n x",
          "put", "put 0", "put 0 0 0", "put 00 0", "put 0 01", "put  0 0", "put 0  0", "put 0 0 ", "put x 0", "put -1 0",
          "put 0 +1", "put 1000000000 0", "put 0 1000000000", "put 0 0\n ", "put\t0 0", "put 0\u00b2 1", "put \u0663 1",
-         "hue", "tell", "desk", "answer yes", "flag\r", "flag\tx", "book\r\n x", "\u00a0flag"]
+         "hue", "tell", "desk", "puts 0 0", "move 1 2", "place 1", "0 0 0", "1 1", "answer yes", "flag\r", "flag\tx", "book\r\n x", "\u00a0flag"]
 
 
 class Lines(unittest.TestCase):

@@ -289,6 +289,16 @@ class Foldings(unittest.TestCase):
         self.assertEqual(folding(book), ((0, 1), (0, 1, 0, 2, 3)))
         self.assertEqual(folding(mirrored(book)), ((0, 1), (0, 1, 0, 2, 3)))
 
+    def test_two_of_one_lot_put_apart(self):
+        # all ROWS of a letter are one: it is the map alone that puts HUES 0 and 1 of one lot to unlike ones
+        for left, right in (((0, 1, 2, 3), (0, 2, 2, 3)), ((0, 2, 2, 3), (0, 1, 2, 3))):
+            line = ((0, 0, left, right), (0, 3, left, right))
+            book = ((True,), (0, 0, 0, 1), (0, 0), ((line,) * 4,))
+            self.assertIs(is_book(book), True)
+            for hues, told in (((0, 0, 1, 2), False), ((0, 1, 1, 2), True), ((0, 1, 0, 2), True), ((0, 0, 0, 1), True)):
+                self.assertIs(plain_is_folding(book, (0,), hues), told)
+                self.assertIs(is_folding(book, ((0,), hues)), told)
+
     def test_any_value(self):
         for thing in ODD_VALUES:
             self.assertIs(is_folding(PARITY, thing), False)

@@ -407,6 +407,16 @@ class Bounds(unittest.TestCase):
         table = tuple([tuple([tuple([leads.get((x, y), 13) for y in every])] * 2) for x in every])
         return tuple([at == goal for at in every]), 0, table
 
+    def test_a_cheaper_way_that_is_found_later(self):
+        # 0, 1, 2, 3 CHANGES lead to TINTS 0 to 3; two of 2 lead to TINT 4 by 5, and 3 and 0 by 4
+        leads = {(0, 0): 1, (1, 0): 2, (2, 0): 3, (2, 2): 4, (3, 0): 4}
+        table = tuple([tuple([tuple([leads.get((x, y), 5) for y in range(6)])] * 2) for x in range(6)])
+        pairbook = ((False,) * 4 + (True, False), 0, table)
+        history = pair_parting(pairbook, NONE)
+        self.assertEqual(len(history[1]), 4)
+        self.assertIs(plain_pair_parts(pairbook, NONE, history), True)
+        self.assertEqual(len(pairs_parted(pairbook, tint_book(NONE))[1]), 4)
+
     def test_400_changes(self):
         for goal, many in ((8, 255), (9, 383), (10, 399), (11, 400)):
             pairbook = self.climbing(goal)
