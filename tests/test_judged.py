@@ -198,6 +198,26 @@ class Judged(unittest.TestCase):
         self.assertEqual(least_rows(dull_book(1, False), NONE), ())
         self.assertEqual(parting(dull_book(1, False), ALL_OF_ONE), (1, ()))
 
+    def test_less_marks_and_more_changes(self):
+        # FLAG 1 leads to 2 at HUE 1, which becomes 3; 2 leads to 0 at HUE 2, and to 3 at HUE 3; 3 to 0 at HUE 3:
+        # so two MARKS lead there by two CHANGES, and the first of them alone by three
+        still = (0, 1, 2, 3, 4)
+        leads = {(1, 1): 2, (2, 2): 0, (2, 3): 3, (3, 3): 0}
+        rows = tuple([
+            tuple([((leads.get((f, h), f), 3 if (f, h) in leads else 0, still, still), (f, 4, still, still)) for h in still])
+            for f in range(4)
+        ])
+        book = ((False, True, True, True), (0, 0, 0, 0, 1), (1, 0), rows)
+        self.assertIs(is_book(book), True)
+        plain = PlainSights(book, ALL_OF_ONE)
+        told = plain.distances(3)
+        marks = [(hue, (0,)) for hue in range(4)]
+        self.assertEqual(told[(1, (0,), (marks[1], marks[2]))], 2)
+        self.assertEqual(told[(1, (0,), (marks[1],))], 3)
+        expected = tuple(sorted(plain.least(told, 99)))
+        self.assertEqual(len(expected), 5)
+        self.assertEqual(least_rows(book, ALL_OF_ONE), expected)
+
     def test_of_three_letters_and_six_doings(self):
         mixed = Random(7)
         book = hue_book(THREE)
